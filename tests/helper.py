@@ -1,8 +1,19 @@
 """What the tests of several modules ask alike."""
 
 import copy
+import functools
+import itertools
 import random
+import time
 import unittest
+
+from secondread.errors import ReadError
+from secondread.exam import Exam
+
+# In seconds: far above what is needed, far below what going through all rows of ten papers would take.
+MOMENT = 5
+
+QUESTIONS = ("papers", "readers", "step", "dealt", "dealing", "against", "due", "marks", "left")
 
 
 def lists_within(value):
@@ -55,6 +66,87 @@ class PromiseCase(unittest.TestCase):
         for changed in lists_within(first):
             changed.append("changed")
         self.assertEqual(function(*arguments), second, function.__name__)
+
+    def assert_answers(self, exam, **wanted):
+        for question, answer in wanted.items():
+            told = getattr(exam, question)()
+            self.assert_same(told, answer, question)
+
+    # Equal and of the same kinds throughout: so that True is not taken for 1, nor a tuple for a list.
+    def assert_same(self, told, wanted, about=None):
+        self.assertEqual(told, wanted, about)
+        self.assertEqual(kinds_within(told), kinds_within(wanted), about)
+
+    # What is refused changes nothing that can be asked.
+    def assert_refused(self, exam, deed, error):
+        before = all_told(exam)
+        self.assertIs(outcome(exam, deed), error, deed[0])
+        self.assert_same(all_told(exam), before)
+
+    def within_a_moment(self, function, *arguments):
+        start = time.process_time()
+        told = function(*arguments)
+        self.assertLess(time.process_time() - start, MOMENT)
+        return told
+
+
+def kinds_within(value):
+    if type(value) in (list, tuple):
+        return [type(value), [kinds_within(part) for part in value]]
+    return type(value)
+
+
+# A deed is a tuple: its name, then what is handed to it. A refusal is told by its class.
+def outcome(exam, deed):
+    try:
+        return getattr(exam, deed[0])(*deed[1:])
+    except ReadError as error:
+        return type(error)
+
+
+def outcomes(exam, deeds):
+    return [outcome(exam, deed) for deed in deeds]
+
+
+def all_told(exam):
+    return [copy.deepcopy(getattr(exam, question)()) for question in QUESTIONS]
+
+
+def exam_with(papers, readers, step=0):
+    exam = Exam()
+    for house in papers:
+        exam.bring_paper(house)
+    for house, limit in readers:
+        exam.bring_reader(house, limit)
+    exam.set_step(step)
+    return exam
+
+
+def dealt_exam(papers, readers, step=0):
+    exam = exam_with(papers, readers, step)
+    if exam.deal() is not True:
+        raise AssertionError("these papers can't be dealt")
+    return exam
+
+
+# The first way that any search in the order of point 8 comes upon; what failed once is kept in mind.
+def first_by_search(papers, readers):
+    @functools.lru_cache(maxsize=None)
+    def behind(paper, left):
+        if paper == len(papers):
+            return ()
+        may = [place for place, row in enumerate(readers) if row[0] != papers[paper] and left[place] > 0]
+        for first, second in itertools.combinations(may, 2):
+            less = list(left)
+            less[first] -= 1
+            less[second] -= 1
+            rest = behind(paper + 1, tuple(less))
+            if rest is not None:
+                return ((first + 1, second + 1),) + rest
+        return None
+
+    found = behind(0, tuple(limit for house, limit in readers))
+    return None if found is None else [list(row) for row in found]
 
 
 # Papers and readers for tests that compare many of them: from written seeds, so the same at each run.

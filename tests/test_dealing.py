@@ -1,16 +1,11 @@
 """Points 1, 7, 8, 9 and 16: dealings, the first one of them, and what is left behind the rows."""
 
-import functools
 import itertools
-import time
 import unittest
 
 from secondread.against import first_against
 from secondread.dealing import first_dealing, is_dealing, left_after
-from tests.helper import PromiseCase, exams_of_all_sizes, full_exams, small_exams
-
-# Far above what is needed, far below what going through all rows of ten papers would take.
-MOMENT = 1
+from tests.helper import PromiseCase, exams_of_all_sizes, first_by_search, full_exams, small_exams
 
 
 def fits(papers, readers, rows):
@@ -29,26 +24,6 @@ def first_of_all_rows(papers, readers):
         if fits(papers, readers, rows):
             return [list(row) for row in rows]
     return None
-
-
-# The first way that any search in the order of point 8 comes upon; what failed once is kept in mind.
-def first_by_search(papers, readers):
-    @functools.lru_cache(maxsize=None)
-    def behind(paper, left):
-        if paper == len(papers):
-            return ()
-        may = [place for place, row in enumerate(readers) if row[0] != papers[paper] and left[place] > 0]
-        for first, second in itertools.combinations(may, 2):
-            less = list(left)
-            less[first] -= 1
-            less[second] -= 1
-            rest = behind(paper + 1, tuple(less))
-            if rest is not None:
-                return ((first + 1, second + 1),) + rest
-        return None
-
-    found = behind(0, tuple(limit for house, limit in readers))
-    return None if found is None else [list(row) for row in found]
 
 
 class IsDealingTest(PromiseCase):
@@ -234,9 +209,7 @@ class FirstDealingTest(PromiseCase):
 
 class TenPapersAndEightReadersTest(PromiseCase):
     def told_within_a_moment(self, papers, readers):
-        start = time.perf_counter()
-        told = first_dealing(papers, readers)
-        self.assertLess(time.perf_counter() - start, MOMENT, (papers, readers))
+        told = self.within_a_moment(first_dealing, papers, readers)
         dealt = told is not None
         self.assertNotEqual(dealt, first_against(papers, readers) is not None)
         if dealt:
